@@ -1,0 +1,1 @@
+"""Tapline: tracing a machine that does not notice it."""
