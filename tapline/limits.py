@@ -10,3 +10,18 @@ MOST_DIGITS = 19
 
 # Characters of the longest text.
 LONGEST = 32
+
+# Keys of an array or a table, and values of a trace or say.
+MOST_KEYS = 3
+MOST_VALUES = 16
+
+# The machine: addresses of a memory, numbers in a register, threads of a run.
+ADDRESSES = 256
+NUMBERS = 65536
+MOST_THREADS = 8
+
+# The byte of a stop.
+STOP_BYTE = 255
+
+# What a call gives that can give nothing else, and the code of a thread that ends by a fault.
+NO_RESULT = 65535
