@@ -25,3 +25,7 @@ STOP_BYTE = 255
 
 # What a call gives that can give nothing else, and the code of a thread that ends by a fault.
 NO_RESULT = 65535
+
+# Code: its registers are 0 to LAST_REGISTER, and what it names by numbers ends at MOST_INDEX.
+LAST_REGISTER = 7
+MOST_INDEX = 10000

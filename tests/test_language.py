@@ -10,7 +10,7 @@ import warnings
 ROOT = os.path.dirname(os.path.dirname(os.path.abspath(__file__)))
 PACKAGE = os.path.join(ROOT, "tapline")
 BUILTINS = """len range enumerate zip min max sum abs sorted reversed int str bool list tuple dict isinstance ord repr
-any all divmod super ValueError""".split()
+any all divmod set super ValueError""".split()
 METHODS = """append clear copy count endswith extend find get index insert isalnum isalpha isdigit islower isspace
 isupper items join keys ljust lower lstrip partition pop remove replace reverse rfind rjust rpartition rsplit rstrip
 setdefault split splitlines startswith strip update upper values zfill bit_length""".split()
@@ -20,8 +20,8 @@ NO_NAMES = """register mro elements open input law version_info with_traceback a
 compile copyright credits delattr dir eval exec exit gc getattr globals hasattr help id importlib license locals
 methodcaller os quit setattr vars sys""".split()
 STATEMENTS = (ast.FunctionDef, ast.ClassDef, ast.ImportFrom, ast.Assign, ast.AugAssign, ast.If, ast.While, ast.For,
-              ast.Return, ast.Break, ast.Continue, ast.Raise, ast.Expr, ast.Delete, ast.Pass)
-NO_NODES = (ast.Set, ast.SetComp, ast.Lambda, ast.Global, ast.Nonlocal, ast.Try, ast.With, ast.Yield,
+              ast.Return, ast.Break, ast.Continue, ast.Raise, ast.Expr, ast.Delete, ast.Pass, ast.Try)
+NO_NODES = (ast.Set, ast.SetComp, ast.Lambda, ast.Global, ast.Nonlocal, ast.With, ast.Yield,
             ast.YieldFrom, ast.Await, ast.Div, ast.MatMult, ast.NamedExpr, ast.Starred, ast.AnnAssign)
 
 
@@ -116,6 +116,35 @@ class Language(unittest.TestCase):
         for name, node in nodes((ast.FunctionDef, ast.ClassDef)):
             self.assertEqual(node.decorator_list, [])
 
+    def test_own_errors_alone_are_caught(self):
+        own = [node.name for _, node in nodes(ast.ClassDef)]
+        for name, node in nodes(ast.Try):
+            self.assertFalse(node.orelse or node.finalbody, name)
+            for handler in node.handlers:
+                self.assertIsInstance(handler.type, ast.Name, name)
+                self.assertIn(handler.type.id, own, name)
+
+    def test_sets_are_sorted_at_once(self):
+        of_sets = [node for _, node in nodes(ast.Name) if node.id == "set"]
+        sorted_sets = [node.args[0].func for _, node in nodes(ast.Call)
+                       if isinstance(node.func, ast.Name) and node.func.id == "sorted" and len(node.args) == 1
+                       and not node.keywords and isinstance(node.args[0], ast.Call)]
+        self.assertEqual(len([part for part in sorted_sets if isinstance(part, ast.Name) and part.id == "set"]), len(of_sets))
+
+    def test_loops_do_not_change_what_they_go_over(self):
+        for name, node in nodes(ast.For):
+            gone_over = {ast.unparse(part) for part in ast.walk(node.iter) if isinstance(part, (ast.Name, ast.Attribute))}
+            for part in [part for row in node.body for part in ast.walk(row)]:
+                changed = []
+                if isinstance(part, (ast.Assign, ast.AugAssign, ast.Delete)):
+                    changed = getattr(part, "targets", None) or [part.target]
+                    changed = [one.value if isinstance(one, ast.Subscript) else one for one in changed]
+                elif isinstance(part, ast.Call) and isinstance(part.func, ast.Attribute):
+                    if part.func.attr in ("append", "clear", "extend", "insert", "pop", "remove", "reverse", "update"):
+                        changed = [part.func.value]
+                for one in changed:
+                    self.assertNotIn(ast.unparse(one), gone_over - {"self"}, f"{name} {node.lineno}")
+
     def test_constants(self):
         for name, node in nodes(ast.Constant):
             self.assertIn(type(node.value), (int, str, bool, type(None)), name)
@@ -124,9 +153,9 @@ class Language(unittest.TestCase):
                 self.assertNotRegex(node.value, r"\._{1,2}$")
 
     def test_names(self):
-        held = dict(trees())
+        held = {name: bound(tree) for name, tree in trees()}
         for name, node in nodes(ast.Name):
-            self.assertTrue(node.id in bound(held[name]) or node.id in BUILTINS, f"{name} {node.lineno} {node.id}")
+            self.assertTrue(node.id in held[name] or node.id in BUILTINS, f"{name} {node.lineno} {node.id}")
             if isinstance(node.ctx, ast.Store):
                 self.plain(node.id, name)
         for name, node in nodes(ast.arg):
@@ -180,7 +209,7 @@ def bound(tree):
             found.add(node.name)
         elif isinstance(node, ast.arg):
             found.add(node.arg)
-        elif isinstance(node, ast.alias):
+        elif isinstance(node, (ast.alias, ast.ExceptHandler)):
             found.add(node.name)
         elif isinstance(node, ast.Name) and isinstance(node.ctx, ast.Store):
             found.add(node.id)
