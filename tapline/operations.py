@@ -64,6 +64,6 @@ def joined_text(one, other):
 
 def part_of(text, first, most):
     """At most so many characters of a text, from an index on."""
-    if first < 0 or first >= len(text) or most < 1:
+    if first < 0 or most < 1:
         return ""
     return text[first:first + most]

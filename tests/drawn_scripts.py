@@ -10,7 +10,7 @@ from tapline.log import log_of
 
 GLOBALS = (("n", "int"), ("m", "int"), ("s", "str"))
 ARRAYS = (("a", ("int",), "int"), ("b", ("str", "int"), "str"), ("c", ("int", "str", "int"), "int"))
-THREADS = (("own", "int"), ("note", "str"))
+THREADS = (("note", "str"), ("own", "int"))
 TABLES = (("hits", (), "count"), ("per", ("int",), "sum"), ("low", ("str", "int"), "least"),
           ("high", ("str", "str", "int"), "most"), ("spread", ("int",), "hist"), ("by", ("str",), "count"))
 VIEWED = {"int": (("now",), ("cpu",), ("pid",), ("tid",), ("at",)), "str": (("name",),)}

@@ -74,7 +74,7 @@ BAD = {
     "order": ("", "=", "+", "<>", "mod", None, True, 0, ()), "sort": ("", "Trace", "record", "fault", None, True, 0, ()),
     "value": (("int", LEAST - 1), ("int", GREATEST + 1), ("int", True), ("int", False), ("int", "1"), ("int", None), ("int", ()),
               ("str", "x" * 33), ("str", "\""), ("str", "\n"), ("str", "%"), ("str", "\\"), ("str", "\t"), ("str", "\x7f"),
-              ("str", "\u00e9"), ("str", 1), ("str", None), ("str", ("a",)), ("bool", 1), ("", 0), (1, 1), ("int",), ("str",),
+              ("str", "\u00e9"), ("str", 1), ("str", None), ("str", ("a",)), ("bool", 1), ("", 0), (1, 1), ("bool", "x"), ("Str", "a"), (None, "a"), (True, "a"), ("int",), ("str",),
               ("int", 1, 1), (), 1, "int", None, True, ("Int", 1), (("int", 1),)),
 }
 

@@ -50,6 +50,11 @@ class Compiled(unittest.TestCase):
                 for r in range(len(code[1])):
                     self.assertTrue(all(t > r for t in following(code, r)))
 
+    def test_places_are_used_again(self):
+        code = compile_clause(script_of("int i; " + "trace(g, g, s, g, g, s); a[g + i] = 5;" * 2500), 0)
+        self.assertTrue(is_code(code))
+        self.assertLess(len(code[0]), 30)
+
     def test_the_same_code_each_time(self):
         script = drawn_script(5)
         self.assertEqual(compile_clause(script, 0), compile_clause(script, 0))
